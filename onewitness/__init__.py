@@ -1,0 +1,1 @@
+"""Onewitness: counters, and one witness of the order."""

@@ -1,6 +1,6 @@
-"""What the modules share: the limits of machines and rows, and how values are checked."""
+"""What the modules share: the limits of machines and rows, how values are checked, and walks along rows."""
 
-from onewitness.errors import BadRow
+from onewitness.errors import BadRow, TooGreat
 
 DEEDS_MOST = 4
 STATES_MOST = 8
@@ -39,3 +39,79 @@ def row_of(value, deeds):
     if at is not None:
         raise BadRow(at)
     return tuple(value)
+
+
+def are_deeds(value, deeds):
+    """Tell whether any value is a sequence of so many kinds of deeds, however long."""
+    return isinstance(value, (list, tuple)) and first_not_below(value, deeds) is None
+
+
+def ended(tables, place, row):
+    """Return the place to which a row leads this one."""
+    for deed in row:
+        place = tables[deed][place]
+    return place
+
+
+class Walk:
+    """The points (place, showing) that rows come to, in the order of the shortest rows to them.
+
+    The tables tell by deed, by place the next place. With bounds, no kind that is
+    counted in full shows more than its bound.
+    """
+
+    def __init__(self, tables, start, counters, most, bounds=None):
+        self.tables = tables
+        self.counters = counters
+        self.most = most
+        self.bounds = bounds
+        self.points = [(start, (0,) * len(tables))]
+        self.before = {self.points[0]: None}
+        self.gone_on = 0
+
+    def point(self, at):
+        """Return the point of this number, None if there are not so many; TooGreat if more than most come."""
+        # Only when all that came before was asked for is anything searched further:
+        # whoever stops at a point has not searched behind the rows as long as the one to it.
+        while at >= len(self.points) and self.gone_on < len(self.points):
+            self._go_on(self.points[self.gone_on])
+            self.gone_on += 1
+        return self.points[at] if at < len(self.points) else None
+
+    def all_points(self):
+        """Return all points; TooGreat if there are more than most."""
+        at = 0
+        while self.point(at) is not None:
+            at += 1
+        return self.points
+
+    def row_to(self, point):
+        """Return a shortest row that comes to a point."""
+        row = []
+        while self.before[point] is not None:
+            point, deed = self.before[point]
+            row.append(deed)
+        return tuple(reversed(row))
+
+    def _go_on(self, point):
+        place, showing = point
+        for deed, table in enumerate(self.tables):
+            later = self._later(showing, deed)
+            if later is not None and (table[place], later) not in self.before:
+                self._come((table[place], later), point, deed)
+
+    def _come(self, point, before, deed):
+        if len(self.points) >= self.most:
+            raise TooGreat(self.most)
+        self.points.append(point)
+        self.before[point] = (before, deed)
+
+    def _later(self, showing, kind):
+        """Return the showing one deed later, None if it is beyond the bounds."""
+        turn, rest = self.counters.rounds[kind], self.counters.rests[kind]
+        many = showing[kind] + 1
+        if turn == 0 and self.bounds is not None and many > self.bounds[kind]:
+            return None
+        if turn > 0 and many == rest + turn:
+            many = rest
+        return showing[:kind] + (many,) + showing[kind + 1:]

@@ -63,11 +63,14 @@ def shown_number(counters, kind, many):
     return _shows(counters, kind, many)
 
 
+def shown_of(counters, deeds):
+    """Return the showing of deeds, however many."""
+    return tuple([_shows(counters, kind, deeds.count(kind)) for kind in range(len(counters.rounds))])
+
+
 def shown(counters, row):
     """Return the showing of a row."""
-    kinds = len(counters.rounds)
-    done = row_of(row, kinds)
-    return tuple([_shows(counters, kind, done.count(kind)) for kind in range(kinds)])
+    return shown_of(counters, row_of(row, len(counters.rounds)))
 
 
 def _can_show(counters, kind, value):

@@ -1,6 +1,6 @@
 """Machines: states, deeds that lead them to states, and rows of deeds."""
 
-from onewitness.basics import DEEDS_MOST, STATES_MOST, first_not_below, is_below, is_sequence, row_of
+from onewitness.basics import DEEDS_MOST, STATES_MOST, ended, first_not_below, is_below, is_sequence, row_of
 from onewitness.errors import BadMachine, Forgets, NoDeed, NoState
 
 
@@ -50,13 +50,11 @@ def check_row(machine, value):
 def led(machine, state, row):
     """Return the state to which the row leads this one."""
     need_state(machine, state)
-    for deed in check_row(machine, row):
-        state = machine.tables[deed][state]
-    return state
+    return ended(machine.tables, state, check_row(machine, row))
 
 
-def reached(machine, first):
-    """Return the states that come from the first one, ascending."""
+def in_coming_order(machine, first):
+    """Return the states that come from the first one, in the order of the first row to each."""
     found = [need_state(machine, first)]
     at = 0
     while at < len(found):
@@ -65,7 +63,12 @@ def reached(machine, first):
             if state not in found:
                 found.append(state)
         at += 1
-    return tuple(sorted(found))
+    return tuple(found)
+
+
+def reached(machine, first):
+    """Return the states that come from the first one, ascending."""
+    return tuple(sorted(in_coming_order(machine, first)))
 
 
 def forgotten(machine, first):

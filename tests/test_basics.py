@@ -4,11 +4,13 @@ import copy
 import inspect
 import unittest
 
-from onewitness import counters, errors, machines, texts
+from onewitness import (
+    boards, cheapest, counters, doings, errors, leastones, lots, machines, settling, splits, texts, witnesses,
+)
 from onewitness.counters import Counters
 from onewitness.errors import NoState, Refused, WitnessError
 from onewitness.machines import Machine
-from tests.helper import FORGETS, MIXED, SWAPS, TURN, Promises, any_values, exact
+from tests.helper import FORGETS, HOURS, MIXED, SWAPS, TURN, Promises, any_values, exact
 
 # By module, by name the parameters as the document gives them; those behind "*" by name alone.
 INTERFACE = {
@@ -27,11 +29,59 @@ INTERFACE = {
         "counters_text": "counters", "read_counters": "text", "showing_text": "counters showing",
         "read_showing": "counters text",
     },
+    settling: {"settled": "machine first pairs rounds"},
+    lots: {
+        "lots_of": "machine first counters", "fold_size": "machine first counters",
+        "fold_values": "machine first counters", "lot_shown": "machine first counters showing",
+        "told_state": "machine first counters showing value", "open_lots": "machine first counters * most",
+        "open_lot": "machine first counters showing * most", "needed_values": "machine first counters * most",
+        "lot_rows": "machine first counters * most", "rows_hold": "machine first counters value",
+        "values_hold": "machine first counters value",
+    },
+    boards: {
+        "board_of": "machine first", "orders_of": "machine first", "needless_kinds": "machine first",
+        "plain_rounds": "machine first counters", "tell_alike": "machine first counters others",
+        "lot_after": "machine first counters counts", "board_basis": "machine first counters",
+        "joint_counters": "machine first counters", "joint_holds": "machine first counters value",
+    },
+    cheapest: {
+        "cheapest_rounds": "machine first fold", "fold_curve": "machine first",
+        "kind_worth": "machine first counters kind",
+    },
+    witnesses: {
+        "is_telling": "machine first counters witness start * most",
+        "beaten_rows": "machine first counters witness start * most",
+        "beaten_holds": "machine first counters witness start value",
+        "states_left": "machine first counters witness showing standing start * most",
+    },
+    leastones: {
+        "least_witness": "machine first counters * most", "fewest_standings": "machine first counters * most",
+    },
+    doings: {
+        "doing_of": "machine first counters row", "all_doings": "machine first counters * most",
+        "still_doings": "machine first counters * most", "keepers": "machine first counters * most",
+        "doing_behind": "machine first counters one other * most", "is_free": "machine first",
+    },
+    splits: {
+        "kept_doings": "machine first counters witness start * most",
+        "is_kept_group": "machine first counters value * most",
+        "coset_witness": "machine first counters kept * most", "split_paper": "machine first counters * most",
+        "split_holds": "machine first counters value * most",
+    },
     errors: {
         "BadMachine": "at", "BadRow": "at", "BadShowing": "at", "BadText": "at", "Refused": "at", "TooGreat": "most",
         "Forgets": "deed one other", "NoState": "state", "NoDeed": "deed",
     },
 }
+
+# What may be left out; a start may, but not where a value stands behind it.
+DEFAULTS = {"rests": (), "start": 0}
+NO_DEFAULTS = ("beaten_holds",)
+
+TWOS = Counters([2, 2])
+ON_SWAPS = {"machine": SWAPS, "first": 0, "counters": TWOS}
+WITH_SWAPS = {**ON_SWAPS, "witness": SWAPS, "start": 1}
+SPLIT = [[[0, 1, 2], [0, 0]], [[0, 2, 1], [0, 1]]]
 
 # A right call of each function and class, its arguments in lists where there are sequences.
 CALLS = (
@@ -59,7 +109,58 @@ CALLS = (
     (texts.read_counters, {"text": "rounds 2 0\nrests 1 3"}),
     (texts.showing_text, {"counters": MIXED, "showing": [1, 9, 3]}),
     (texts.read_showing, {"counters": MIXED, "text": "1 9 3"}),
+    (settling.settled, {"machine": SWAPS, "first": 0, "pairs": [[0, 1], [1, 1]], "rounds": [0, 2]}),
+    (lots.lots_of, ON_SWAPS),
+    (lots.fold_size, ON_SWAPS),
+    (lots.fold_values, ON_SWAPS),
+    (lots.lot_shown, {**ON_SWAPS, "showing": [1, 0]}),
+    (lots.told_state, {**ON_SWAPS, "showing": [1, 0], "value": 2}),
+    (lots.rows_hold, {**ON_SWAPS, "value": [[0, 1, 0, 1], [], [1, 0, 1, 0]]}),
+    (lots.values_hold, {**ON_SWAPS, "value": [2, 0, 1]}),
+    (boards.board_of, {"machine": SWAPS, "first": 0}),
+    (boards.orders_of, {"machine": SWAPS, "first": 0}),
+    (boards.needless_kinds, {"machine": SWAPS, "first": 0}),
+    (boards.plain_rounds, ON_SWAPS),
+    (boards.tell_alike, {**ON_SWAPS, "others": Counters([0, 3])}),
+    (boards.lot_after, {**ON_SWAPS, "counts": [-1, 5]}),
+    (boards.board_basis, ON_SWAPS),
+    (boards.joint_counters, {"machine": HOURS, "first": 0, "counters": TWOS}),
+    (boards.joint_holds, {"machine": HOURS, "first": 0, "counters": TWOS, "value": [[[0, 1], 2]]}),
+    (cheapest.cheapest_rounds, {"machine": HOURS, "first": 0, "fold": 4}),
+    (cheapest.fold_curve, {"machine": HOURS, "first": 0}),
+    (cheapest.kind_worth, {"machine": HOURS, "first": 0, "counters": TWOS, "kind": 1}),
+    (witnesses.beaten_holds, {**WITH_SWAPS, "value": [[], [0, 0]]}),
+    (doings.doing_of, {**ON_SWAPS, "row": [0, 1, 0]}),
+    (doings.is_free, {"machine": SWAPS, "first": 0}),
 )
+
+# The same for those that have most, which is told by name alone.
+SEARCHES = (
+    (counters.all_showings, {"counters": Counters([2, 3])}),
+    (lots.open_lots, ON_SWAPS),
+    (lots.open_lot, {**ON_SWAPS, "showing": [1, 0]}),
+    (lots.needed_values, ON_SWAPS),
+    (lots.lot_rows, ON_SWAPS),
+    (witnesses.is_telling, WITH_SWAPS),
+    (witnesses.beaten_rows, {**WITH_SWAPS, "witness": Machine([[1, 0], [1, 0]])}),
+    (witnesses.states_left, {**ON_SWAPS, "witness": SWAPS, "showing": [1, 1], "standing": 2, "start": 1}),
+    (leastones.least_witness, ON_SWAPS),
+    (leastones.fewest_standings, ON_SWAPS),
+    (doings.all_doings, ON_SWAPS),
+    (doings.still_doings, ON_SWAPS),
+    (doings.keepers, ON_SWAPS),
+    (doings.doing_behind, {**ON_SWAPS, "one": SPLIT[1], "other": SPLIT[0]}),
+    (splits.kept_doings, WITH_SWAPS),
+    (splits.is_kept_group, {**ON_SWAPS, "value": [[[0, 1, 2], [0, 0]]]}),
+    (splits.coset_witness, {**ON_SWAPS, "kept": SPLIT}),
+    (splits.split_paper, ON_SWAPS),
+    (splits.split_holds, {**ON_SWAPS, "value": SPLIT}),
+)
+
+
+def all_calls():
+    """Every call of these: the function or class, its arguments, and what is told by name alone."""
+    return [(call, named, {}) for call, named in CALLS] + [(call, named, {"most": 900}) for call, named in SEARCHES]
 
 
 def with_tuples(value):
@@ -78,6 +179,15 @@ def has_list(value):
     return isinstance(value, list)
 
 
+def spoil(value):
+    """Change a list, and the lists in it."""
+    if isinstance(value, list):
+        for item in value:
+            spoil(item)
+        value.reverse()
+        value.append(7)
+
+
 class BasicsTest(Promises):
 
     def test_names_and_parameters(self):
@@ -94,42 +204,47 @@ class BasicsTest(Promises):
                 for one in parameters:
                     kind = one.KEYWORD_ONLY if one.name in behind else one.POSITIONAL_OR_KEYWORD
                     self.assertEqual(one.kind, kind, name)
-                    self.assertEqual(one.default, () if one.name == "rests" else one.empty, name)
+                    wanted = one.empty if name in NO_DEFAULTS else DEFAULTS.get(one.name, one.empty)
+                    self.assertEqual(one.default, wanted, name)
         self.assertTrue(issubclass(WitnessError, ValueError))
 
+    def test_all_functions_are_called_here(self):
+        called = {call.__name__ for call, named, only in all_calls()}
+        for module, told in INTERFACE.items():
+            if module is not errors:
+                self.assertLessEqual(set(told), called)
+
     def test_arguments_by_position_and_by_name_in_lists_and_in_tuples(self):
-        for call, named in CALLS:
-            by_position = call(*named.values())
+        for call, named, only in all_calls():
+            by_position = call(*named.values(), **only)
             self.assertFalse(has_list(by_position), call)
-            self.same(call(**named), by_position)
+            self.same(call(**named, **only), by_position)
             backwards = {name: named[name] for name in reversed(list(named))}
-            self.same(call(**backwards), by_position)
-            self.same(call(*[with_tuples(value) for value in named.values()]), by_position)
-        self.same(counters.all_showings(most=9, counters=Counters([2, 3])),
-                  counters.all_showings(Counters([2, 3]), most=9))
-        self.assertFalse(has_list(counters.all_showings(Counters([2, 3]), most=9)))
+            self.same(call(**only, **backwards), by_position)
+            self.same(call(*[with_tuples(value) for value in named.values()], **only), by_position)
+
+    def test_most_is_passed_by_name_alone(self):
+        for call, named in SEARCHES:
+            for values in (list(named.values()), [*named.values(), 900]):
+                with self.assertRaises(TypeError):
+                    call(*values)
 
     def test_no_arguments_are_changed_nor_kept(self):
-        for call, named in CALLS:
+        for call, named, only in all_calls():
             before = exact(list(named.values()))
             given = copy.deepcopy(list(named.values()))
-            result = call(*given)
+            result = call(*given, **only)
             self.assertEqual(exact(given), before, call)
             wanted = exact(result)
             for value in given:
-                if isinstance(value, list):
-                    for item in value:
-                        if isinstance(item, list):
-                            item.append(5)
-                    value.reverse()
-                    value.append(7)
+                spoil(value)
             self.assertEqual(exact(result), wanted, call)
 
     def test_equal_calls_give_equal_results_whatever_was_called_in_between(self):
-        first = [exact(call(*copy.deepcopy(list(named.values())))) for call, named in CALLS]
-        for call, named in reversed(CALLS):
-            call(**copy.deepcopy(named))
-        self.assertEqual([exact(call(*copy.deepcopy(list(named.values())))) for call, named in CALLS], first)
+        first = [exact(call(**copy.deepcopy(named), **only)) for call, named, only in all_calls()]
+        for call, named, only in reversed(all_calls()):
+            call(**copy.deepcopy(named), **only)
+        self.assertEqual([exact(call(**copy.deepcopy(named), **only)) for call, named, only in all_calls()], first)
 
     def test_a_bool_is_never_taken_for_an_equal_integer(self):
         for right, wrong in ((0, False), (1, True)):
@@ -155,6 +270,11 @@ class BasicsTest(Promises):
             (texts.row_text, errors.BadRow, (SWAPS,)), (texts.showing_text, errors.BadShowing, (MIXED,)),
             (texts.read_machine, errors.BadText, ()), (texts.read_counters, errors.BadText, ()),
             (texts.read_row, errors.BadText, (SWAPS,)), (texts.read_showing, errors.BadText, (MIXED,)),
+            (lots.lot_shown, errors.BadShowing, (SWAPS, 0, TWOS)), (lots.told_state, Refused, (SWAPS, 0, TWOS, (0, 0))),
+            (boards.lot_after, Refused, (SWAPS, 0, TWOS)), (cheapest.cheapest_rounds, Refused, (HOURS, 0)),
+            (cheapest.kind_worth, errors.NoDeed, (HOURS, 0, TWOS)), (doings.doing_of, errors.BadRow, (SWAPS, 0, TWOS)),
+            (boards.board_of, NoState, (SWAPS,)), (cheapest.fold_curve, NoState, (SWAPS,)),
+            (doings.is_free, NoState, (SWAPS,)), (boards.orders_of, NoState, (TURN,)),
         )
         for call, error_class, ahead in described:
             taken = 0

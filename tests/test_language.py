@@ -123,6 +123,71 @@ class LanguageTest(unittest.TestCase):
             for name in free:
                 del sources[name]
 
+    def test_ranges_zips_and_views_are_iterated_on_the_spot(self):
+        makers = {"range", "zip", "enumerate", "reversed"}
+        takers = {"list", "tuple", "dict", "sorted", "sum", "any", "all", "enumerate", "zip", "min", "max"}
+        for name in files():
+            for node in nodes(name):
+                for child in ast.iter_child_nodes(node):
+                    if not isinstance(child, ast.Call):
+                        continue
+                    named = isinstance(child.func, ast.Name) and child.func.id in makers
+                    view = isinstance(child.func, ast.Attribute) and child.func.attr in ("items", "keys", "values")
+                    if named or view:
+                        iterated = isinstance(node, (ast.For, ast.comprehension)) and node.iter is child
+                        taken = isinstance(node, ast.Call) and child in node.args and (
+                            isinstance(node.func, ast.Name) and node.func.id in takers
+                            or isinstance(node.func, ast.Attribute) and isinstance(node.func.value, ast.Constant))
+                        kept = isinstance(node, ast.Assign) and isinstance(node.targets[0], ast.Name)
+                        self.assertTrue(iterated or taken or kept and child.func.id == "range", (name, child.lineno))
+        # Neither is a range that a variable keeps passed on or returned.
+        for name in files():
+            for function in [node for node in nodes(name) if isinstance(node, ast.FunctionDef)]:
+                kept = {node.targets[0].id for node in ast.walk(function)
+                        if isinstance(node, ast.Assign) and isinstance(node.value, ast.Call)
+                        and isinstance(node.value.func, ast.Name) and node.value.func.id == "range"}
+                for node in ast.walk(function):
+                    if isinstance(node, ast.Call) and not (isinstance(node.func, ast.Name) and node.func.id in takers):
+                        passed = {one.id for one in node.args if isinstance(one, ast.Name)}
+                        self.assertFalse(kept & passed, (name, node.lineno))
+                    if isinstance(node, ast.Return) and isinstance(node.value, ast.Name):
+                        self.assertNotIn(node.value.id, kept, (name, node.lineno))
+
+    def test_what_a_loop_goes_over_is_not_changed_in_it(self):
+        changing = {"append", "extend", "insert", "pop", "remove", "clear", "update", "setdefault", "reverse", "sort"}
+        for name in files():
+            for loop in [node for node in nodes(name) if isinstance(node, ast.For)]:
+                over = {ast.unparse(node) for node in ast.walk(loop.iter)
+                        if isinstance(node, (ast.Name, ast.Attribute))}
+                for node in ast.walk(ast.Module(loop.body, [])):
+                    called = isinstance(node, ast.Call) and isinstance(node.func, ast.Attribute)
+                    if called and node.func.attr in changing:
+                        self.assertNotIn(ast.unparse(node.func.value), over, (name, node.lineno))
+                    if isinstance(node, ast.Subscript) and isinstance(node.ctx, ast.Store):
+                        self.assertNotIn(ast.unparse(node.value), over, (name, node.lineno))
+
+    def test_what_builtins_are_passed(self):
+        keywords = {"sorted": {"key", "reverse"}, "min": {"key", "default"}, "max": {"key", "default"},
+                    "sum": {"start"}, "enumerate": {"start"}, "zip": {"strict"}}
+        for name in files():
+            for node in nodes(name):
+                if isinstance(node, ast.Call):
+                    self.assertFalse([one for one in node.args if isinstance(one, ast.Starred)], (name, node.lineno))
+                    if isinstance(node.func, ast.Name) and hasattr(builtins, node.func.id):
+                        passed = {one.arg for one in node.keywords}
+                        self.assertLessEqual(passed, keywords.get(node.func.id, set()), (name, node.lineno))
+                    if isinstance(node.func, ast.Attribute) and node.func.attr in METHODS:
+                        self.assertEqual(node.keywords, [], (name, node.lineno))
+
+    def test_sets_stand_only_where_they_are_counted(self):
+        for name in files():
+            for node in nodes(name):
+                for child in ast.iter_child_nodes(node):
+                    made = isinstance(child, ast.Call) and isinstance(child.func, ast.Name) and child.func.id == "set"
+                    if made or isinstance(child, (ast.Set, ast.SetComp)):
+                        counted = isinstance(node, ast.Call) and isinstance(node.func, ast.Name)
+                        self.assertTrue(counted and node.func.id in ("len", "sorted"), (name, child.lineno))
+
     def test_names(self):
         for name in files():
             imported = [alias.name for node in nodes(name) if isinstance(node, ast.ImportFrom) for alias in node.names]

@@ -5,6 +5,8 @@ from onewitness.errors import BadRow, TooGreat
 DEEDS_MOST = 4
 STATES_MOST = 8
 ROW_MOST = 400
+# So many pairs of a showing and a state, or a standing, are looked at where no caller says how many.
+PAIRS_MOST = 4000
 
 
 def is_number(value):
@@ -21,6 +23,20 @@ def is_below(value, limit):
 def is_sequence(value, least, most):
     """Tell whether any value is a sequence of so many items."""
     return isinstance(value, (list, tuple)) and least <= len(value) <= most
+
+
+def are_integers(value, many):
+    """Tell whether any value is a sequence of so many integers, below 0, too."""
+    if not is_sequence(value, many, many):
+        return False
+    return all([isinstance(item, int) and not isinstance(item, bool) for item in value])
+
+
+def are_ascending(value, least, limit):
+    """Tell whether any value is an ascending sequence of so many numbers or more, all below the limit."""
+    if not is_sequence(value, least, limit) or first_not_below(value, limit) is not None:
+        return False
+    return all([one < other for one, other in zip(value, value[1:])])
 
 
 def first_not_below(values, limit):

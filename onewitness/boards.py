@@ -2,7 +2,7 @@
 
 from math import gcd
 
-from onewitness.basics import is_below, is_number, is_sequence
+from onewitness.basics import are_integers, is_below, is_number, is_sequence
 from onewitness.counters import Counters, need_fit
 from onewitness.errors import Refused
 from onewitness.lots import lot_with, lots_of
@@ -50,17 +50,10 @@ def tell_alike(machine, first, counters, others):
     return lots_of(machine, first, counters) == lots_of(machine, first, others)
 
 
-def _are_counts(value, kinds):
-    """Tell whether any value is a sequence of an integer a kind, below 0, too."""
-    if not is_sequence(value, kinds, kinds):
-        return False
-    return all([isinstance(many, int) and not isinstance(many, bool) for many in value])
-
-
 def lot_after(machine, first, counters, counts):
     """Return the lot to which so many deeds of each kind lead the first state."""
     lots = lots_of(machine, first, counters)
-    if not _are_counts(counts, machine.deeds):
+    if not are_integers(counts, machine.deeds):
         raise Refused(counts)
     return lot_with(lots, moved_by(machine.tables, first, counts))
 

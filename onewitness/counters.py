@@ -63,9 +63,14 @@ def shown_number(counters, kind, many):
     return _shows(counters, kind, many)
 
 
+def showing_of(counters, counts):
+    """Return what counters show of so many deeds of each kind."""
+    return tuple([_shows(counters, kind, many) for kind, many in enumerate(counts)])
+
+
 def shown_of(counters, deeds):
     """Return the showing of deeds, however many."""
-    return tuple([_shows(counters, kind, deeds.count(kind)) for kind in range(len(counters.rounds))])
+    return showing_of(counters, [deeds.count(kind) for kind in range(len(counters.rounds))])
 
 
 def shown(counters, row):

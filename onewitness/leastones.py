@@ -2,14 +2,14 @@
 
 from onewitness.errors import TooGreat
 from onewitness.lots import fold_size
-from onewitness.machines import Machine, in_coming_order
+from onewitness.machines import Machine, from_first, reached
 from onewitness.witnesses import is_telling
 
 
 def least_witness(machine, first, counters, *, most):
     """Return the tables of a witness with as few standings as can be, that begins in standing 0 and tells."""
     fold = fold_size(machine, first, counters)
-    come = in_coming_order(machine, first)
+    come = reached(machine, first)
     # Rows that no counter shows lead a telling witness from any standing to equally many, a multiple of the fold,
     # and so all standings that come are a multiple of it, too: other numbers need no search.
     for standings in range(fold, len(come), fold):
@@ -17,7 +17,7 @@ def least_witness(machine, first, counters, *, most):
         if tables is not None:
             return tables
     # Nothing less than the machine itself does.
-    return tuple([tuple([come.index(table[state]) for state in come]) for table in machine.tables])
+    return from_first(machine, first)
 
 
 def fewest_standings(machine, first, counters, *, most):
@@ -35,17 +35,17 @@ def _telling_tables(machine, first, counters, standings, most):
         looked_at += 1
         if looked_at > most:
             raise TooGreat(most)
-        if len(begun) < _named(begun) * deeds:
+        if len(begun) < named(begun) * deeds:
             waiting.extend(_gone_on(begun, deeds, standings))
-        elif _named(begun) == standings:
+        elif named(begun) == standings:
             tables = tuple([begun[deed::deeds] for deed in range(deeds)])
             if is_telling(machine, first, counters, Machine(tables), most=most):
                 return tables
     return None
 
 
-def _named(begun):
-    """Return how many standings have come in tables begun."""
+def named(begun):
+    """Return how many standings have come in tables begun, told as one row."""
     return max((0,) + begun) + 1
 
 
@@ -56,5 +56,5 @@ def _gone_on(begun, deeds, standings):
     numbered as they come, and no deed leads two to one.
     """
     taken = begun[len(begun) % deeds::deeds]
-    later = range(min(_named(begun) + 1, standings))
+    later = range(min(named(begun) + 1, standings))
     return [begun + (standing,) for standing in later if standing not in taken]

@@ -1,7 +1,7 @@
 """Machines: states, deeds that lead them to states, and rows of deeds."""
 
 from onewitness.basics import DEEDS_MOST, STATES_MOST, ended, first_not_below, is_below, is_sequence, row_of
-from onewitness.errors import BadMachine, Forgets, NoDeed, NoState
+from onewitness.errors import BadMachine, Forgets, NoDeed, NoState, Refused
 
 
 class Machine:
@@ -66,6 +66,12 @@ def in_coming_order(machine, first):
     return tuple(found)
 
 
+def from_first(machine, first):
+    """Return the tables of the states that come alone, numbered in the order of the first row to each."""
+    come = in_coming_order(machine, first)
+    return tuple([tuple([come.index(table[state]) for state in come]) for table in machine.tables])
+
+
 def reached(machine, first):
     """Return the states that come from the first one, ascending."""
     return tuple(sorted(in_coming_order(machine, first)))
@@ -89,3 +95,19 @@ def need_exchanges(machine, first):
         deed, one, other = found
         raise Forgets(deed, one, other)
     return machine
+
+
+def need_witness(deeds, witness, start):
+    """Return the witness; Refused for another number of deeds, NoState for a start that is none of its standings."""
+    if witness.deeds != deeds:
+        raise Refused(witness)
+    need_state(witness, start)
+    return witness
+
+
+def need_exchanging_witness(deeds, witness, start):
+    """Return the witness; also Refused if it forgets from the start."""
+    need_witness(deeds, witness, start)
+    if forgotten(witness, start) is not None:
+        raise Refused(witness)
+    return witness

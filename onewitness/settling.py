@@ -1,5 +1,7 @@
 """Settling: the least parting of states in which deeds told do not hang on their order, nor on full rounds."""
 
+from math import lcm
+
 from onewitness.machines import need_exchanges, reached
 
 
@@ -35,34 +37,69 @@ def least_parting(tables, places, pairs, rounds):
 
     The tables exchange the places, which are ascending, and lead out of none of them.
     """
-    name = {place: place for place in places}
+    above = {place: place for place in places}
     together = _first_together(tables, places, pairs, rounds)
     while together:
         one, other = together.pop()
-        kept, dropped = name[one], name[other]
+        kept, dropped = _top(above, one), _top(above, other)
         if kept != dropped:
-            for place in places:
-                if name[place] == dropped:
-                    name[place] = kept
+            above[dropped] = kept
             # Deeds lead lots to lots. For two that were in one lot before, this was seen to then.
             together.extend([(table[one], table[other]) for table in tables])
     lots = {}
     for place in places:
-        lots.setdefault(name[place], []).append(place)
+        lots.setdefault(_top(above, place), []).append(place)
     # Each was begun with its least place, and so they were begun in ascending order.
     return tuple([tuple(lot) for lot in lots.values()])
+
+
+def _top(above, place):
+    """Return the place above which none stands, and which stands for the whole lot of this one."""
+    while above[place] != place:
+        # The way up is shortened for whoever goes it next: lots may have thousands of places.
+        above[place] = above[above[place]]
+        place = above[place]
+    return place
 
 
 def _first_together(tables, places, pairs, rounds):
     """Return the pairs of places that must be in one lot, but for those to which deeds lead these."""
     together = []
-    for place in places:
-        for one, other in pairs:
-            together.append((tables[other][tables[one][place]], tables[one][tables[other][place]]))
-        # A round 0 asks nothing: done 0 times a deed leads each place to itself.
-        for table, turn in zip(tables, rounds):
-            together.append((place, moved(table, place, turn)))
+    for one, other in pairs:
+        first, second = tables[one], tables[other]
+        together.extend([(second[first[place]], first[second[place]]) for place in places])
+    # A round 0 asks nothing: done 0 times a deed leads each place to itself.
+    for table, turn in zip(tables, rounds):
+        together.extend(_all_moved(table, places, turn))
     return together
+
+
+def _all_moved(table, places, many):
+    """Return the pairs of each place and that to which so many deeds lead it."""
+    later = {}
+    for place in places:
+        if place not in later:
+            found = circle(table, place)
+            for at, one in enumerate(found):
+                later[one] = found[(at + many) % len(found)]
+    return list(later.items())
+
+
+def order_of(table, places):
+    """Return the least number of deeds, from 1 on, that leads each place to itself."""
+    order = 1
+    for place in places:
+        order = lcm(order, len(circle(table, place)))
+    return order
+
+
+def undoing(tables, places, row):
+    """Return a row that leads each place back to that from which a row leads to it."""
+    orders = [order_of(table, places) for table in tables]
+    undone = []
+    for deed in reversed(row):
+        undone.extend([deed] * (orders[deed] - 1))
+    return tuple(undone)
 
 
 def settled(machine, first, pairs, rounds):

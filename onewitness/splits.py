@@ -3,7 +3,7 @@
 from onewitness.basics import STATES_MOST
 from onewitness.doings import Doings, as_doing, keeper_doings
 from onewitness.errors import Refused, TooGreat
-from onewitness.machines import Machine, forgotten, need_state
+from onewitness.machines import Machine, need_exchanging_witness
 
 
 class Cosets:
@@ -125,10 +125,7 @@ def is_kept_group(machine, first, counters, value, *, most):
 def kept_doings(machine, first, counters, witness, start=0, *, most):
     """Return the doings of all rows that lead the witness from the start to itself, ascending."""
     doings = Doings(machine, first, counters)
-    if witness.deeds != machine.deeds:
-        raise Refused(witness)
-    if forgotten(witness, need_state(witness, start)) is not None:
-        raise Refused(witness)
+    need_exchanging_witness(machine.deeds, witness, start)
     known = {(doings.nothing, start): True}
     waiting = [(doings.nothing, start)]
     while waiting:

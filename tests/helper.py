@@ -6,6 +6,7 @@ from itertools import product
 
 from onewitness.counters import Counters, shown_on
 from onewitness.errors import BadRow, NoState, TooGreat
+from onewitness.logs import Logs
 from onewitness.machines import Machine, reached
 
 SWAPS = Machine([(1, 0, 2), (0, 2, 1)])
@@ -105,6 +106,60 @@ def many_times(machine, deed, state, many):
     return state
 
 
+def partings(places):
+    """All partings of places into lots."""
+    if not places:
+        yield []
+        return
+    for parting in partings(places[1:]):
+        yield [[places[0]], *parting]
+        for at, lot in enumerate(parting):
+            yield [*parting[:at], [places[0], *lot], *parting[at + 1:]]
+
+
+def settles(machine, parting, pairs, rounds):
+    """Whether a parting settles told pairs and rounds, looked up word by word."""
+    lot_of = {state: at for at, lot in enumerate(parting) for state in lot}
+    tables = machine.tables
+    for lot in parting:
+        for deed, turn in enumerate(rounds):
+            if len({lot_of[tables[deed][state]] for state in lot}) > 1:
+                return False
+            if turn > 0 and any(lot_of[many_times(machine, deed, state, turn)] != lot_of[state] for state in lot):
+                return False
+        for one, other in pairs:
+            if any(lot_of[tables[other][tables[one][state]]] != lot_of[tables[one][tables[other][state]]]
+                   for state in lot):
+                return False
+    return True
+
+
+def least_by_trial(machine, first, pairs, rounds):
+    """The least of all partings that settle: in it states are together just if they are in each of them."""
+    come = list(reached(machine, first))
+    right = [parting for parting in partings(come) if settles(machine, parting, pairs, rounds)]
+    always = {(one, other) for one in come for other in come
+              if all(any(one in lot and other in lot for lot in parting) for parting in right)}
+    least = tuple(sorted({tuple(other for other in come if (one, other) in always) for one in come}))
+    assert settles(machine, least, pairs, rounds)
+    return least
+
+
+def is_any_sequence(value, length=None):
+    """Whether any value is a list or a tuple, of this length if one is told."""
+    return type(value) in (list, tuple) and (length is None or len(value) == length)
+
+
+def are_numbers_below(value, limit):
+    """Whether any value is a sequence of numbers below a limit."""
+    return is_any_sequence(value) and all(type(item) is int and 0 <= item < limit for item in value)
+
+
+def is_ascending_below(value, limit):
+    """Whether any value is an ascending sequence of numbers below a limit."""
+    return are_numbers_below(value, limit) and list(value) == sorted(set(value))
+
+
 def ends(machine, first, row):
     """Where a row of any length leads."""
     for deed in row:
@@ -154,7 +209,7 @@ def exact(value):
     """The value with the classes of all that is in it, so that True is not 1 and a list no tuple."""
     if isinstance(value, (list, tuple)):
         return (type(value).__name__, [exact(item) for item in value])
-    if isinstance(value, (Machine, Counters)):
+    if isinstance(value, (Machine, Counters, Logs)):
         return (type(value).__name__, [(name, exact(vars(value)[name])) for name in sorted(vars(value))])
     return (type(value).__name__, value)
 
@@ -177,7 +232,8 @@ def any_values():
         ((0,),), [[0]], ([0],), [(0,)], [(), ()], ((1, 0, 2), [0, 2, 1]), [[0, 1], [True, 0]], [[0], [0], [0], [0]],
         [[0]] * 5, [[]], (None, (0,)), [[0, 1], None], [(0,) * 9], [[1, 0], [0]], [(8,) * 8], [(7,) * 8],
         nested(40, list), nested(40, tuple), [0, nested(39, tuple)], (nested(39, list), 0),
-        SWAPS, MIXED, Counters([2]), [SWAPS], (MIXED,), NoState([1]), BadRow(0), [NoState(None)],
+        SWAPS, MIXED, Counters([2]), [SWAPS], (MIXED,), Logs([2, 0], [(0, 1)]), ((0,), Machine([(1, 0)]), 0),
+        [[0], SWAPS, 1], [((0,), Machine([(1, 0)]), 1)], NoState([1]), BadRow(0), [NoState(None)],
         (0,) * 400, [0] * 401, [0] * 399 + [True], (0,) * 399 + (9,), [1] * 401,
     ]
 

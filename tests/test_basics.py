@@ -5,10 +5,12 @@ import inspect
 import unittest
 
 from onewitness import (
-    boards, cheapest, counters, doings, errors, leastones, lots, machines, settling, splits, texts, witnesses,
+    boards, cheapest, counters, doings, errors, forgetting, leastones, logs, lots, machines, merging, settling, several,
+    splits, texts, witnesses,
 )
 from onewitness.counters import Counters
 from onewitness.errors import NoState, Refused, WitnessError
+from onewitness.logs import Logs
 from onewitness.machines import Machine
 from tests.helper import FORGETS, HOURS, MIXED, SWAPS, TURN, Promises, any_values, exact
 
@@ -68,6 +70,25 @@ INTERFACE = {
         "coset_witness": "machine first counters kept * most", "split_paper": "machine first counters * most",
         "split_holds": "machine first counters value * most",
     },
+    logs: {
+        "Logs": "rounds lots", "unseen_pairs": "logs", "loose_kinds": "logs", "sight_of": "logs row",
+        "log_lots": "machine first logs", "log_fold": "machine first logs", "apart_pairs": "machine first",
+        "log_rows": "machine first logs", "fewest_pairs": "machine first rounds size",
+    },
+    several: {
+        "check_lookers": "machine value", "standings_of": "machine lookers row",
+        "several_tell": "machine first counters lookers * most",
+        "several_rows": "machine first counters lookers * most",
+        "needless_lookers": "machine first counters lookers * most",
+    },
+    forgetting: {
+        "alone_paper": "machine first counters", "least_alone": "machine first",
+        "open_web": "machine first counters * most", "state_colours": "machine first counters * most",
+        "fewest_witness": "machine first counters * most", "three_numbers": "machine first counters * most",
+    },
+    merging: {
+        "merged": "counters showings", "without_kinds": "counters kinds", "left_showing": "counters kinds showing",
+    },
     errors: {
         "BadMachine": "at", "BadRow": "at", "BadShowing": "at", "BadText": "at", "Refused": "at", "TooGreat": "most",
         "Forgets": "deed one other", "NoState": "state", "NoDeed": "deed",
@@ -77,11 +98,16 @@ INTERFACE = {
 # What may be left out; a start may, but not where a value stands behind it.
 DEFAULTS = {"rests": (), "start": 0}
 NO_DEFAULTS = ("beaten_holds",)
+# The searches of which most may be left out.
+WITH_MOST = {"several_tell": 4000, "several_rows": 4000, "needless_lookers": 4000}
 
 TWOS = Counters([2, 2])
 ON_SWAPS = {"machine": SWAPS, "first": 0, "counters": TWOS}
 WITH_SWAPS = {**ON_SWAPS, "witness": SWAPS, "start": 1}
 SPLIT = [[[0, 1, 2], [0, 0]], [[0, 2, 1], [0, 1]]]
+FLIP = Machine([[1, 0]])
+ON_LOGS = {"machine": SWAPS, "first": 0, "logs": Logs([2, 2], [])}
+WITH_LOOKERS = {**ON_SWAPS, "lookers": [[[0, 1], SWAPS, 2], [[1], FLIP, 1]]}
 
 # A right call of each function and class, its arguments in lists where there are sequences.
 CALLS = (
@@ -132,6 +158,23 @@ CALLS = (
     (witnesses.beaten_holds, {**WITH_SWAPS, "value": [[], [0, 0]]}),
     (doings.doing_of, {**ON_SWAPS, "row": [0, 1, 0]}),
     (doings.is_free, {"machine": SWAPS, "first": 0}),
+    (Logs, {"rounds": [2, 0], "lots": [[0, 1], [0, 1]]}),
+    (logs.unseen_pairs, {"logs": Logs([2, 0, 1], [[0, 1]])}),
+    (logs.loose_kinds, {"logs": Logs([2, 0, 1], [[0, 1]])}),
+    (logs.sight_of, {"logs": Logs([2, 0, 1], [[0, 1]]), "row": [0, 1, 2, 1]}),
+    (logs.log_lots, ON_LOGS),
+    (logs.log_fold, ON_LOGS),
+    (logs.apart_pairs, {"machine": SWAPS, "first": 0}),
+    (logs.log_rows, ON_LOGS),
+    (logs.fewest_pairs, {"machine": SWAPS, "first": 0, "rounds": [2, 0], "size": 1}),
+    (several.check_lookers, {"machine": SWAPS, "value": WITH_LOOKERS["lookers"]}),
+    (several.standings_of, {"machine": SWAPS, "lookers": WITH_LOOKERS["lookers"], "row": [0, 1, 1]}),
+    (several.several_rows, {**ON_SWAPS, "lookers": WITH_LOOKERS["lookers"][1:]}),
+    (forgetting.alone_paper, ON_SWAPS),
+    (forgetting.least_alone, {"machine": HOURS, "first": 0}),
+    (merging.merged, {"counters": MIXED, "showings": [[1, 9, 3], [0, 2, 1]]}),
+    (merging.without_kinds, {"counters": MIXED, "kinds": [0, 2]}),
+    (merging.left_showing, {"counters": MIXED, "kinds": [0, 2], "showing": [1, 9, 3]}),
 )
 
 # The same for those that have most, which is told by name alone.
@@ -155,6 +198,13 @@ SEARCHES = (
     (splits.coset_witness, {**ON_SWAPS, "kept": SPLIT}),
     (splits.split_paper, ON_SWAPS),
     (splits.split_holds, {**ON_SWAPS, "value": SPLIT}),
+    (several.several_tell, WITH_LOOKERS),
+    (several.several_rows, WITH_LOOKERS),
+    (several.needless_lookers, WITH_LOOKERS),
+    (forgetting.open_web, ON_SWAPS),
+    (forgetting.state_colours, ON_SWAPS),
+    (forgetting.fewest_witness, ON_SWAPS),
+    (forgetting.three_numbers, ON_SWAPS),
 )
 
 
@@ -172,7 +222,7 @@ def with_tuples(value):
 
 def has_list(value):
     """Whether a list stands somewhere in a result or its attributes."""
-    if isinstance(value, (Machine, Counters)):
+    if isinstance(value, (Machine, Counters, Logs)):
         return any(has_list(item) for item in vars(value).values())
     if isinstance(value, tuple):
         return any(has_list(item) for item in value)
@@ -205,6 +255,8 @@ class BasicsTest(Promises):
                     kind = one.KEYWORD_ONLY if one.name in behind else one.POSITIONAL_OR_KEYWORD
                     self.assertEqual(one.kind, kind, name)
                     wanted = one.empty if name in NO_DEFAULTS else DEFAULTS.get(one.name, one.empty)
+                    if one.name == "most":
+                        wanted = WITH_MOST.get(name, one.empty)
                     self.assertEqual(one.default, wanted, name)
         self.assertTrue(issubclass(WitnessError, ValueError))
 
@@ -225,9 +277,11 @@ class BasicsTest(Promises):
 
     def test_most_is_passed_by_name_alone(self):
         for call, named in SEARCHES:
-            for values in (list(named.values()), [*named.values(), 900]):
+            with self.assertRaises(TypeError):
+                call(*named.values(), 900)
+            if call.__name__ not in WITH_MOST:
                 with self.assertRaises(TypeError):
-                    call(*values)
+                    call(*named.values())
 
     def test_no_arguments_are_changed_nor_kept(self):
         for call, named, only in all_calls():
@@ -275,6 +329,12 @@ class BasicsTest(Promises):
             (cheapest.kind_worth, errors.NoDeed, (HOURS, 0, TWOS)), (doings.doing_of, errors.BadRow, (SWAPS, 0, TWOS)),
             (boards.board_of, NoState, (SWAPS,)), (cheapest.fold_curve, NoState, (SWAPS,)),
             (doings.is_free, NoState, (SWAPS,)), (boards.orders_of, NoState, (TURN,)),
+            (Logs, Refused, ([2, 2],)), (logs.sight_of, errors.BadRow, (ON_LOGS["logs"],)),
+            (logs.apart_pairs, NoState, (SWAPS,)), (logs.fewest_pairs, Refused, (SWAPS, 0, (2, 2))), (several.check_lookers, Refused, (SWAPS,)),
+            (several.standings_of, errors.BadRow, (SWAPS, [])), (several.several_tell, Refused, (SWAPS, 0, TWOS)),
+            (several.several_rows, Refused, (SWAPS, 0, TWOS)), (several.needless_lookers, Refused, (SWAPS, 0, TWOS)),
+            (forgetting.least_alone, NoState, (SWAPS,)), (merging.without_kinds, Refused, (MIXED,)),
+            (merging.left_showing, errors.BadShowing, (MIXED, (0,))),
         )
         for call, error_class, ahead in described:
             taken = 0

@@ -111,6 +111,54 @@ SECTION_7 = r'''
     (False, 4, None)
 '''
 
+SECTION_8 = r'''
+    >>> from onewitness.counters import Counters
+    >>> from onewitness.logs import Logs, apart_pairs, fewest_pairs, log_fold, log_lots, log_rows, loose_kinds, sight_of, unseen_pairs
+    >>> from onewitness.machines import Machine, led
+    >>> from onewitness.several import needless_lookers, several_rows, several_tell, standings_of
+    >>> swaps = Machine([(1, 0, 2), (0, 2, 1), (2, 1, 0)])
+    >>> logs = Logs((0, 0, 2), [(0, 1)])
+    >>> unseen_pairs(logs), loose_kinds(logs), sight_of(logs, (0, 2, 1, 2, 2, 0)), log_lots(swaps, 0, logs)
+    (((0, 2), (1, 2)), (2,), (((0, 1, 0),), (1,)), ((0, 1, 2),))
+    >>> apart_pairs(swaps, 0), log_fold(swaps, 0, Logs((0, 0, 0), [(0, 1), (0, 2), (1, 2)])), fewest_pairs(swaps, 0, (2, 2, 2), 2)
+    (((0, 1), (0, 2), (1, 2)), 1, ((0, 1), (0, 2), (1, 2)))
+    >>> rows = log_rows(swaps, 0, logs)
+    >>> [state for state, row in rows], {sight_of(logs, row) == sight_of(logs, rows[0][1]) for state, row in rows}
+    ([0, 1, 2], {True})
+    >>> two = Machine([(1, 0, 3, 2), (2, 3, 0, 1)])
+    >>> half, flip = Counters((2, 1)), Machine([(1, 0)])
+    >>> several_tell(two, 0, half, [((1,), flip, 0)]), len({led(two, 0, row) for row in several_rows(two, 0, half, [])})
+    (True, 2)
+    >>> standings_of(two, [((1,), flip, 0)], (1, 0, 1, 1)), needless_lookers(two, 0, half, [((1,), flip, 0), ((0, 1), two, 0)])
+    ((1,), (0, 1))
+'''
+
+SECTION_9 = r'''
+    >>> from onewitness.counters import Counters
+    >>> from onewitness.forgetting import alone_paper, fewest_witness, least_alone, open_web, state_colours, three_numbers
+    >>> from onewitness.machines import Machine
+    >>> steps = Machine([(1, 2, 3, 4, 2), (0, 1, 2, 3, 4)])
+    >>> least_alone(steps, 0), alone_paper(steps, 0, Counters((6, 1), (2, 0))), alone_paper(steps, 0, Counters((0, 0)))
+    (((3, 1), (2, 0)), None, None)
+    >>> cell = Machine([(0, 0), (1, 1)])
+    >>> least_alone(cell, 0), open_web(cell, 0, Counters((1, 1)), most=9), state_colours(cell, 0, Counters((1, 1)), most=9)
+    (None, ((0, 1),), (0, 1))
+    >>> fewest_witness(cell, 0, Counters((1, 1)), most=99).states, three_numbers(cell, 0, Counters((2, 2)), most=99)
+    (2, (2, 2, 2))
+    >>> triangle = Machine([(1, 7, 5, 6, 7, 7, 7, 7), (2, 4, 7, 6, 7, 7, 7, 7), (3, 5, 4, 7, 7, 7, 7, 7)])
+    >>> three_numbers(triangle, 0, Counters((1, 1, 1), (2, 2, 2)), most=4000)
+    (2, 3, 2)
+'''
+
+# Those of merging; those of slips stand below them in the document.
+SECTION_10 = r'''
+    >>> from onewitness.counters import Counters
+    >>> from onewitness.merging import left_showing, merged, without_kinds
+    >>> mixed = Counters((3, 0), (2, 0))
+    >>> merged(mixed, [(4, 7), (2, 1), (1, 0)]), without_kinds(mixed, (0,)).rounds, left_showing(mixed, (0,), (4, 7))
+    ((4, 8), (1, 0), (0, 7))
+'''
+
 
 class ExamplesTest(unittest.TestCase):
 
@@ -122,7 +170,8 @@ class ExamplesTest(unittest.TestCase):
         self.assertGreater(result.attempted, 0)
 
     def test_sections(self):
-        sections = {1: SECTION_1, 3: SECTION_3, 4: SECTION_4, 5: SECTION_5, 6: SECTION_6, 7: SECTION_7}
+        sections = {1: SECTION_1, 3: SECTION_3, 4: SECTION_4, 5: SECTION_5, 6: SECTION_6, 7: SECTION_7, 8: SECTION_8,
+                    9: SECTION_9, 10: SECTION_10}
         for number, text in sections.items():
             self.run_examples(text, f"section {number}")
 

@@ -139,7 +139,10 @@ class LanguageTest(unittest.TestCase):
                             isinstance(node.func, ast.Name) and node.func.id in takers
                             or isinstance(node.func, ast.Attribute) and isinstance(node.func.value, ast.Constant))
                         kept = isinstance(node, ast.Assign) and isinstance(node.targets[0], ast.Name)
-                        self.assertTrue(iterated or taken or kept and child.func.id == "range", (name, child.lineno))
+                        if named and child.func.id == "range":
+                            turned = isinstance(node, ast.Call) and isinstance(node.func, ast.Name)
+                            taken = taken or kept or turned and node.func.id == "reversed"
+                        self.assertTrue(iterated or taken, (name, child.lineno))
         # Neither is a range that a variable keeps passed on or returned.
         for name in files():
             for function in [node for node in nodes(name) if isinstance(node, ast.FunctionDef)]:
@@ -200,10 +203,13 @@ class LanguageTest(unittest.TestCase):
                 self.assertNotIn(bound, BARRED_NAMES, name)
                 self.assertNotIn(bound, imported, name)
             for node in nodes(name):
-                if isinstance(node, ast.Name) and hasattr(builtins, node.id):
+                # A shell of Python, doctest's too, keeps what it printed last in the builtin "_".
+                if isinstance(node, ast.Name) and node.id != "_" and hasattr(builtins, node.id):
                     self.assertIn(node.id, BUILTINS, (name, node.lineno))
                 if isinstance(node, ast.Name) and isinstance(node.ctx, ast.Store):
                     self.assertNotIn(node.id, classes, name)
+                if isinstance(node, ast.Name) and node.id == "_":
+                    self.assertIsInstance(node.ctx, ast.Store, (name, node.lineno))
 
     def test_statements(self):
         for name in files():

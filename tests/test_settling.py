@@ -10,47 +10,8 @@ from onewitness.machines import Machine, forgotten, reached
 from onewitness.settling import settled
 from tests.helper import (
     CUBE, EIGHT, FORGETS, ORDERS, PARTLY, SQUARE, SWAPS, TURN, TWISTED, WHEEL, Promises, any_values, exchanging, exact,
-    in_full_as_rounds, lots_by_walk, many_times, rounds_for, turned,
+    in_full_as_rounds, least_by_trial, lots_by_walk, rounds_for, turned,
 )
-
-
-def partings(places):
-    """All partings of places into lots."""
-    if not places:
-        yield []
-        return
-    for parting in partings(places[1:]):
-        yield [[places[0]], *parting]
-        for at, lot in enumerate(parting):
-            yield [*parting[:at], [places[0], *lot], *parting[at + 1:]]
-
-
-def settles(machine, parting, pairs, rounds):
-    """Whether a parting settles told pairs and rounds, looked up word by word."""
-    lot_of = {state: at for at, lot in enumerate(parting) for state in lot}
-    tables = machine.tables
-    for lot in parting:
-        for deed, turn in enumerate(rounds):
-            if len({lot_of[tables[deed][state]] for state in lot}) > 1:
-                return False
-            if turn > 0 and any(lot_of[many_times(machine, deed, state, turn)] != lot_of[state] for state in lot):
-                return False
-        for one, other in pairs:
-            if any(lot_of[tables[other][tables[one][state]]] != lot_of[tables[one][tables[other][state]]]
-                   for state in lot):
-                return False
-    return True
-
-
-def least_by_trial(machine, first, pairs, rounds):
-    """The least of all partings that settle: in it states are together just if they are in each of them."""
-    come = list(reached(machine, first))
-    right = [parting for parting in partings(come) if settles(machine, parting, pairs, rounds)]
-    always = {(one, other) for one in come for other in come
-              if all(any(one in lot and other in lot for lot in parting) for parting in right)}
-    least = tuple(sorted({tuple(other for other in come if (one, other) in always) for one in come}))
-    assert settles(machine, least, pairs, rounds)
-    return least
 
 
 class SettledTest(Promises):

@@ -57,7 +57,7 @@ def _need_text(text):
     return text
 
 
-def _read_below(words, limit):
+def read_below(words, limit):
     """Return the numbers that words tell, up to the first one that tells none below the limit."""
     right = [str(number) for number in range(limit)]
     numbers = []
@@ -71,7 +71,7 @@ def _read_below(words, limit):
 def _read_line(line, name, limit):
     """Return the numbers below the limit behind a name; none at all if the line is not so."""
     words = line.split(" ")
-    numbers = _read_below(words[1:], limit)
+    numbers = read_below(words[1:], limit)
     if words[0] != name or len(numbers) < len(words) - 1:
         return []
     return numbers
@@ -92,7 +92,7 @@ def read_machine(text):
     tables = []
     for line in lines[1:DEEDS_MOST + 1]:
         words = line.split(" ")
-        table = _read_below(words, states)
+        table = read_below(words, states)
         if len(words) != states or len(table) != states:
             raise BadText(len(tables) + 2)
         tables.append(table)
@@ -123,7 +123,7 @@ def read_row(machine, text):
     if _need_text(text) == "-":
         return ()
     words = text.split(" ")
-    row = _read_below(words[:ROW_MOST], machine.deeds)
+    row = read_below(words[:ROW_MOST], machine.deeds)
     if len(row) < len(words):
         raise BadText(len(row))
     return tuple(row)

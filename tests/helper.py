@@ -201,6 +201,10 @@ def bent(value):
         yield None
     elif value is None:
         yield 0
+    elif isinstance(value, str):
+        yield from (value + "s", value[:-1], value.upper(), " " + value, None, (value,), [value], 0)
+    elif isinstance(value, (Machine, Counters)):
+        yield from (None, value.tables if isinstance(value, Machine) else value.rounds)
     else:
         yield from (value + 1, value - 1, bool(value), None, str(value), (value,), [value])
 

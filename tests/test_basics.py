@@ -5,13 +5,14 @@ import inspect
 import unittest
 
 from onewitness import (
-    boards, cheapest, counters, doings, errors, forgetting, leastones, logs, lots, machines, merging, settling, several,
-    splits, texts, witnesses,
+    boards, cheapest, claims, counters, desk, doings, errors, forgetting, leastones, logs, lots, machines, merging,
+    settling, several, slips, splits, store, texts, witnesses,
 )
 from onewitness.counters import Counters
 from onewitness.errors import NoState, Refused, WitnessError
 from onewitness.logs import Logs
 from onewitness.machines import Machine
+from onewitness.store import Store
 from tests.helper import FORGETS, HOURS, MIXED, SWAPS, TURN, Promises, any_values, exact
 
 # By module, by name the parameters as the document gives them; those behind "*" by name alone.
@@ -89,14 +90,33 @@ INTERFACE = {
     merging: {
         "merged": "counters showings", "without_kinds": "counters kinds", "left_showing": "counters kinds showing",
     },
+    slips: {
+        "slipped": "counters showing slip", "slip_paper": "counters witness slip start",
+        "is_hidden": "counters witness slip start", "slip_holds": "counters witness slip value start",
+        "hidden_step": "counters witness kind start", "slip_does": "machine first counters witness slip start",
+        "harmless_step": "machine first counters witness kind start",
+    },
+    store: {"Store": "machine first counters hands * witness start"},
+    claims: {
+        "claim_holds": "machine first counters value", "claims_of": "machine first counters * most",
+        "numbers_of": "machine first counters * most",
+    },
+    desk: {"Desk": "store"},
     errors: {
         "BadMachine": "at", "BadRow": "at", "BadShowing": "at", "BadText": "at", "Refused": "at", "TooGreat": "most",
         "Forgets": "deed one other", "NoState": "state", "NoDeed": "deed",
     },
 }
 
+# By class the methods that it defines itself, with their parameters behind self.
+METHODS = {
+    store.Store: {"whole": "", "told": "", "do": "hand deed", "hand_over": "one other", "left": "* most"},
+    desk.Desk: {"say": "line"},
+}
+
 # What may be left out; a start may, but not where a value stands behind it.
-DEFAULTS = {"rests": (), "start": 0}
+DEFAULTS = {"rests": (), "start": 0, "witness": None}
+NO_WITNESS = "Store"
 NO_DEFAULTS = ("beaten_holds",)
 # The searches of which most may be left out.
 WITH_MOST = {"several_tell": 4000, "several_rows": 4000, "needless_lookers": 4000}
@@ -107,6 +127,7 @@ WITH_SWAPS = {**ON_SWAPS, "witness": SWAPS, "start": 1}
 SPLIT = [[[0, 1, 2], [0, 0]], [[0, 2, 1], [0, 1]]]
 FLIP = Machine([[1, 0]])
 ON_LOGS = {"machine": SWAPS, "first": 0, "logs": Logs([2, 2], [])}
+WITH_SLIP = {"counters": TWOS, "witness": SWAPS, "slip": [1, 1], "start": 1}
 WITH_LOOKERS = {**ON_SWAPS, "lookers": [[[0, 1], SWAPS, 2], [[1], FLIP, 1]]}
 
 # A right call of each function and class, its arguments in lists where there are sequences.
@@ -175,6 +196,15 @@ CALLS = (
     (merging.merged, {"counters": MIXED, "showings": [[1, 9, 3], [0, 2, 1]]}),
     (merging.without_kinds, {"counters": MIXED, "kinds": [0, 2]}),
     (merging.left_showing, {"counters": MIXED, "kinds": [0, 2], "showing": [1, 9, 3]}),
+    (slips.slipped, {"counters": TWOS, "showing": [1, 0], "slip": [-1, 3]}),
+    (slips.slip_paper, WITH_SLIP),
+    (slips.is_hidden, WITH_SLIP),
+    (slips.slip_holds, {"counters": TWOS, "witness": SWAPS, "slip": [1, 1], "value": ["hidden", [], [0, 1]],
+                        "start": 0}),
+    (slips.hidden_step, {"counters": TWOS, "witness": SWAPS, "kind": 1, "start": 2}),
+    (slips.slip_does, {**ON_SWAPS, "witness": SWAPS, "slip": [0, 2], "start": 1}),
+    (slips.harmless_step, {"machine": SWAPS, "first": 0, "counters": TWOS, "witness": SWAPS, "kind": 0, "start": 1}),
+    (claims.claim_holds, {**ON_SWAPS, "value": ["rows", [[0, 1, 0, 1], [], [1, 0, 1, 0]]]}),
 )
 
 # The same for those that have most, which is told by name alone.
@@ -205,6 +235,8 @@ SEARCHES = (
     (forgetting.state_colours, ON_SWAPS),
     (forgetting.fewest_witness, ON_SWAPS),
     (forgetting.three_numbers, ON_SWAPS),
+    (claims.claims_of, ON_SWAPS),
+    (claims.numbers_of, ON_SWAPS),
 )
 
 
@@ -255,15 +287,67 @@ class BasicsTest(Promises):
                     kind = one.KEYWORD_ONLY if one.name in behind else one.POSITIONAL_OR_KEYWORD
                     self.assertEqual(one.kind, kind, name)
                     wanted = one.empty if name in NO_DEFAULTS else DEFAULTS.get(one.name, one.empty)
+                    if one.name == "witness" and name != NO_WITNESS:
+                        wanted = one.empty
                     if one.name == "most":
                         wanted = WITH_MOST.get(name, one.empty)
                     self.assertEqual(one.default, wanted, name)
         self.assertTrue(issubclass(WitnessError, ValueError))
 
+    def test_methods_stand_in_their_own_class(self):
+        for owner, told in METHODS.items():
+            for name, words in told.items():
+                method = vars(owner)[name]
+                self.assertEqual(inspect.getsourcefile(method), inspect.getsourcefile(owner))
+                marks = words.split(" ") if words else []
+                front = [mark for mark in marks if mark != "*"]
+                parameters = list(inspect.signature(method).parameters.values())[1:]
+                self.assertEqual([one.name for one in parameters], front)
+                for one in parameters:
+                    kind = one.KEYWORD_ONLY if "*" in marks else one.POSITIONAL_OR_KEYWORD
+                    self.assertEqual((one.kind, one.default), (kind, one.empty))
+
+    def test_all_that_the_interface_lists_is_told_here(self):
+        # As the document lists it, file by file.
+        listed = """
+            errors WitnessError BadMachine BadRow BadShowing BadText Refused TooGreat Forgets NoState NoDeed
+            machines Machine need_state need_deed check_row led reached forgotten need_exchanges
+            counters Counters need_fit is_finite shown_number shown check_showing shown_on showings_many all_showings
+            texts machine_text read_machine row_text read_row counters_text read_counters showing_text read_showing
+            settling settled
+            lots lots_of fold_size fold_values lot_shown told_state open_lots open_lot needed_values lot_rows rows_hold
+            lots values_hold
+            boards board_of orders_of needless_kinds plain_rounds tell_alike lot_after board_basis joint_counters
+            boards joint_holds
+            cheapest cheapest_rounds fold_curve kind_worth
+            witnesses is_telling beaten_rows beaten_holds states_left
+            leastones least_witness fewest_standings
+            doings doing_of all_doings still_doings keepers doing_behind is_free
+            splits kept_doings is_kept_group coset_witness split_paper split_holds
+            logs Logs unseen_pairs loose_kinds sight_of log_lots log_fold apart_pairs log_rows fewest_pairs
+            several check_lookers standings_of several_tell several_rows needless_lookers
+            forgetting alone_paper least_alone open_web state_colours fewest_witness three_numbers
+            merging merged without_kinds left_showing
+            slips slipped slip_paper is_hidden slip_holds hidden_step slip_does harmless_step
+            store Store
+            claims claim_holds claims_of numbers_of
+            desk Desk
+        """
+        by_name = {module.__name__.split(".")[1]: module for module in INTERFACE}
+        told = set()
+        for line in listed.strip().split("\n"):
+            name, *things = line.split()
+            for thing in things:
+                told.add((name, thing))
+                self.assertIs(vars(by_name[name])[thing].__module__, by_name[name].__name__)
+                if thing != "WitnessError":
+                    self.assertIn(thing, INTERFACE[by_name[name]])
+        self.assertEqual(len(told), 1 + sum(len(things) for things in INTERFACE.values()))
+
     def test_all_functions_are_called_here(self):
         called = {call.__name__ for call, named, only in all_calls()}
         for module, told in INTERFACE.items():
-            if module is not errors:
+            if module not in (errors, store, desk):
                 self.assertLessEqual(set(told), called)
 
     def test_arguments_by_position_and_by_name_in_lists_and_in_tuples(self):
@@ -330,11 +414,15 @@ class BasicsTest(Promises):
             (boards.board_of, NoState, (SWAPS,)), (cheapest.fold_curve, NoState, (SWAPS,)),
             (doings.is_free, NoState, (SWAPS,)), (boards.orders_of, NoState, (TURN,)),
             (Logs, Refused, ([2, 2],)), (logs.sight_of, errors.BadRow, (ON_LOGS["logs"],)),
-            (logs.apart_pairs, NoState, (SWAPS,)), (logs.fewest_pairs, Refused, (SWAPS, 0, (2, 2))), (several.check_lookers, Refused, (SWAPS,)),
+            (logs.apart_pairs, NoState, (SWAPS,)), (logs.fewest_pairs, Refused, (SWAPS, 0, (2, 2))),
+            (several.check_lookers, Refused, (SWAPS,)),
             (several.standings_of, errors.BadRow, (SWAPS, [])), (several.several_tell, Refused, (SWAPS, 0, TWOS)),
             (several.several_rows, Refused, (SWAPS, 0, TWOS)), (several.needless_lookers, Refused, (SWAPS, 0, TWOS)),
             (forgetting.least_alone, NoState, (SWAPS,)), (merging.without_kinds, Refused, (MIXED,)),
-            (merging.left_showing, errors.BadShowing, (MIXED, (0,))),
+            (merging.left_showing, errors.BadShowing, (MIXED, (0,))), (slips.slipped, Refused, (TWOS, (0, 1))),
+            (slips.is_hidden, Refused, (TWOS, SWAPS)), (slips.slip_paper, Refused, (TWOS, SWAPS)),
+            (slips.hidden_step, Refused, (TWOS, SWAPS)), (slips.slip_does, Refused, (SWAPS, 0, TWOS, SWAPS)),
+            (slips.harmless_step, Refused, (SWAPS, 0, TWOS, SWAPS)), (Store, Refused, (SWAPS, 0, TWOS)),
         )
         for call, error_class, ahead in described:
             taken = 0

@@ -150,13 +150,42 @@ SECTION_9 = r'''
     (2, 3, 2)
 '''
 
-# Those of merging; those of slips stand below them in the document.
 SECTION_10 = r'''
     >>> from onewitness.counters import Counters
+    >>> from onewitness.machines import Machine
     >>> from onewitness.merging import left_showing, merged, without_kinds
+    >>> from onewitness.slips import harmless_step, hidden_step, is_hidden, slip_does, slip_holds, slipped
     >>> mixed = Counters((3, 0), (2, 0))
     >>> merged(mixed, [(4, 7), (2, 1), (1, 0)]), without_kinds(mixed, (0,)).rounds, left_showing(mixed, (0,), (4, 7))
     ((4, 8), (1, 0), (0, 7))
+    >>> turn, fours, halves = Machine([(1, 2, 3, 0)]), Counters((4,)), Machine([(1, 0)])
+    >>> hidden_step(fours, halves, 0), harmless_step(turn, 0, fours, halves, 0), slipped(fours, (3,), (2,))
+    (2, 4, (1,))
+    >>> [slip_does(turn, 0, fours, halves, (many,)) for many in range(4)], is_hidden(fours, halves, (-2,))
+    (['harmless', 'noticed', 'wrong', 'noticed'], True)
+    >>> slip_holds(fours, halves, (2,), ("hidden", (), [0, 0])), slip_holds(fours, halves, (2,), ("hidden", (), (0,)))
+    (True, False)
+'''
+
+SECTION_11 = r'''
+    >>> from onewitness.claims import claim_holds, claims_of, numbers_of
+    >>> from onewitness.counters import Counters
+    >>> from onewitness.desk import Desk
+    >>> from onewitness.machines import Machine
+    >>> from onewitness.store import Store
+    >>> turn, two = Machine([(1, 2, 3, 0)]), Counters([2])
+    >>> store = Store(turn, 0, two, 2, witness=Machine([(1, 2, 0)]))
+    >>> store.do(0, 0), store.do(1, 0), store.do(1, 0), store.showings, store.whole(), store.value, store.standing
+    ((1,), (1,), (0,), ((1,), (0,)), (1,), 1, 0)
+    >>> store.told(), store.left(most=100), store.hand_over(0, 1), store.showings, store.told()
+    (3, (1, 3), (1,), ((0,), (1,)), 3)
+    >>> numbers_of(turn, 0, two, most=500), claims_of(turn, 0, two, most=500)[0]
+    ((2, 4, 4), ('values', (0, 0, 1, 1)))
+    >>> claim_holds(turn, 0, two, ("rows", [(), (0, 0)])), claim_holds(turn, 0, two, ["beaten", ([(1, 2, 0)], 0, (), (0,) * 6)])
+    (True, True)
+    >>> desk = Desk(Store(turn, 0, two, 2))
+    >>> [desk.say(line) for line in ("do 0 0", "do 1 0", "over 0 1", "whole", "told", "value", "standing", "fold", "do 2 0")]
+    ['shows 1', 'shows 1', 'shows 0', 'shows 0', 'state 2', 'value 1', 'standing none', 'fold 2', '?']
 '''
 
 
@@ -171,7 +200,7 @@ class ExamplesTest(unittest.TestCase):
 
     def test_sections(self):
         sections = {1: SECTION_1, 3: SECTION_3, 4: SECTION_4, 5: SECTION_5, 6: SECTION_6, 7: SECTION_7, 8: SECTION_8,
-                    9: SECTION_9, 10: SECTION_10}
+                    9: SECTION_9, 10: SECTION_10, 11: SECTION_11}
         for number, text in sections.items():
             self.run_examples(text, f"section {number}")
 

@@ -222,7 +222,13 @@ class WebTest(Promises):
                 seen.add(len(set(wanted) - {None}))
         self.assertGreaterEqual(seen, {1, 2, 3, 4})
 
-    def test_numbers_larger_than_any_tuple_needs_are_not_less(self):
+    def test_fewer_numbers_go_ahead_of_lesser_tuples(self):
+        machine = Machine([(1, 1, 4, 2, 5, 5), (0, 5, 4, 2, 4, 5), (2, 4, 5, 2, 4, 5)])
+        counters = Counters((1, 1, 1), (1, 1, 2))
+        self.same(open_web(machine, 0, counters, most=4000), ((1, 5), (2, 4), (4, 5)))
+        # With three numbers the least tuple would begin 0, 0, 0.
+        self.same(state_colours(machine, 0, counters, most=4000), (0, 0, 1, None, 0, 1))
+        self.same(self.colours_by_trial(machine, 0, counters), (0, 0, 1, None, 0, 1))
         self.same(self.colours_by_trial(TRIANGLE, 0, Counters((1, 1, 1), (2, 2, 2))),
                   state_colours(TRIANGLE, 0, Counters((1, 1, 1), (2, 2, 2)), most=4000))
 
